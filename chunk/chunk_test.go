@@ -168,9 +168,11 @@ func byHand(c api.Chunk) string {
 	}
 	s += string([]byte{byte(len(c.Entries))})
 	for i, x := range c.Entries {
-		s += scan.PutText(x.Key) + scan.PutText(x.Value)
-		if c.Level > 0 {
-			s += scan.PutNum(c.Counts[i])
+		s += scan.PutText(x.Key)
+		if c.Level == 0 {
+			s += scan.PutText(x.Value)
+		} else {
+			s += x.Value + scan.PutNum(c.Counts[i])
 		}
 	}
 	return s
@@ -183,8 +185,8 @@ func TestP19_1_Put(t *testing.T) {
 	}{
 		{api.Chunk{}, "L\x00"},
 		{leaf("ab", "b"), "L\x02\x02ab\x02ba\x01b\x01b"},
-		{over(40, "a", "bc"), "I\x28\x02\x01a\x20" + some + "\x01\x02bc\x20" + "1" + some[1:] + "\x02"},
-		{api.Chunk{Level: 1, Entries: []api.Entry{{Key: "k", Value: some}}, Counts: []int{300}}, "I\x01\x01\x01k\x20" + some + "\xac\x02"},
+		{over(40, "a", "bc"), "I\x28\x02\x01a" + some + "\x01\x02bc" + "1" + some[1:] + "\x02"},
+		{api.Chunk{Level: 1, Entries: []api.Entry{{Key: "k", Value: some}}, Counts: []int{300}}, "I\x01\x01\x01k" + some + "\xac\x02"},
 	} {
 		if s, e := Put(c.c); s != c.want || e != api.OK {
 			t.Errorf("%q %v, want %q", s, e, c.want)
@@ -218,7 +220,8 @@ func TestP19_1_TakeOfNone(t *testing.T) {
 		"above, level 0":            "I\x00\x00",
 		"above, level 0, one":       "I\x00\x01\x01a\x00",
 		"above, level 0, a count":   "I\x00\x01\x01a\x20" + some + "\x01",
-		"level 41":                  "I\x29\x01\x01a\x20" + some + "\x01",
+		"above, level 0, a name":    "I\x00\x01\x01a" + some + "\x01",
+		"level 41":                  "I\x29\x01\x01a" + some + "\x01",
 		"a byte behind":             "L\x00\x00",
 		"an entry behind":           "L\x00\x01a\x00",
 		"an entry less":             "L\x02\x01a\x00",
@@ -233,24 +236,28 @@ func TestP19_1_TakeOfNone(t *testing.T) {
 		"a huge length":             "L\x01\xff\xff\xff\xff\xff\xff\xff\xff\xff\x01",
 		"keys that don't rise":      "L\x02\x01b\x00\x01a\x00",
 		"a key twice":               "L\x02\x01a\x00\x01a\x00",
-		"above, keys fall":          "I\x01\x02\x01b\x20" + some + "\x01\x01a\x20" + some + "\x01",
-		"above, a short name":       "I\x01\x01\x01a\x1f" + some[1:] + "\x01",
-		"above, a long name":        "I\x01\x01\x01a\x21" + some + "x\x01",
-		"above, a count of 0":       "I\x01\x01\x01a\x20" + some + "\x00",
-		"above, a count too great":  "I\x01\x01\x01a\x20" + some + "\x81\x80\x80\x80\x08",
-		"above, no count":           "I\x01\x01\x01a\x20" + some,
-		"above, two counts":         "I\x01\x01\x01a\x20" + some + "\x01\x01",
-		"above, a count of two":     "I\x01\x01\x01a\x20" + some + "\x81\x00",
+		"above, keys fall":          "I\x01\x02\x01b" + some + "\x01\x01a" + some + "\x01",
+		"above, a short name":       "I\x01\x01\x01a" + some[1:] + "\x01",
+		"above, a long name":        "I\x01\x01\x01a" + some + "x\x01",
+		"above, a name's length":    "I\x01\x01\x01a\x20" + some + "\x01",
+		"above, one has a length":   "I\x01\x02\x01a" + some + "\x01\x01b\x20" + some + "\x01",
+		"above, an empty name":      "I\x01\x01\x01a\x00\x01",
+		"above, a count of 0":       "I\x01\x01\x01a" + some + "\x00",
+		"above, a count too great":  "I\x01\x01\x01a" + some + "\x81\x80\x80\x80\x08",
+		"above, no count":           "I\x01\x01\x01a" + some,
+		"above, two counts":         "I\x01\x01\x01a" + some + "\x01\x01",
+		"above, a count of two":     "I\x01\x01\x01a" + some + "\x81\x00",
 		"a count at level 0":        "L\x01\x01a\x20" + some + "\x01",
-		"a level of two bytes":      "I\x81\x00\x01\x01a\x20" + some + "\x01",
+		"a name at level 0":         "L\x01\x01a" + some + "\x01",
+		"a level of two bytes":      "I\x81\x00\x01\x01a" + some + "\x01",
 		"how many of two bytes":     "L\x81\x00\x01a\x00",
 		"a byte ahead":              "\x00L\x00",
 		"two of them":               "L\x00L\x00",
-		"a huge level":              "I\xff\xff\xff\xff\xff\xff\xff\xff\xff\x01\x01\x01a\x20" + some + "\x01",
+		"a huge level":              "I\xff\xff\xff\xff\xff\xff\xff\xff\xff\x01\x01\x01a" + some + "\x01",
 		"an entry that ends early":  "L\x01\x02a",
 		"a value that ends early":   "L\x01\x01a\x02b",
-		"above, a name ends early":  "I\x01\x01\x01a\x20" + some[1:],
-		"above, a huge count":       "I\x01\x01\x01a\x20" + some + "\xff\xff\xff\xff\xff\xff\xff\xff\xff\x01",
+		"above, a name ends early":  "I\x01\x01\x01a" + some[1:],
+		"above, a huge count":       "I\x01\x01\x01a" + some + "\xff\xff\xff\xff\xff\xff\xff\xff\xff\x01",
 		"above, nine":               byHand(over(1, strings.Split(keys8+"i", "")...)),
 		"above, the empty key":      byHand(over(1, "")),
 		"a text of no chunk at all": "hello",

@@ -223,6 +223,18 @@ func TestP20_1_TheEmptyMap(t *testing.T) {
 	}
 }
 
+func TestP20_1_TheRootOfTwoLeaves(t *testing.T) {
+	leaves := []string{"L\x02\x01a\x00\x01c\x00", "L\x01\x01d\x00"}
+	want := "I\x01\x02" + "\x01c" + sha.Sum(leaves[0]) + "\x02" + "\x01d" + sha.Sum(leaves[1]) + "\x01"
+	s, root := built(t, []api.Entry{{Key: "a"}, {Key: "c"}, {Key: "d"}})
+	if root != sha.Sum(want) || !slices.Equal(s.Texts(0), append(leaves, want)) {
+		t.Errorf("%x %q", root, s.Texts(0))
+	}
+	if s, root = built(t, []api.Entry{{Key: "a"}, {Key: "c"}}); root != sha.Sum(leaves[0]) { // which is cut at its end
+		t.Errorf("%x %q", root, s.Texts(0))
+	}
+}
+
 func TestP20_2_Put(t *testing.T) {
 	s := shelf.New()
 	leaf := api.Chunk{Entries: []api.Entry{entry("a"), entry("b")}}
