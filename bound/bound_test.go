@@ -8,9 +8,12 @@ import (
 
 	"pleach/api"
 	"pleach/area"
+	"pleach/calls"
 	"pleach/disk"
 	"pleach/entry"
+	"pleach/model"
 	"pleach/repo"
+	"pleach/sample"
 	"pleach/seat"
 )
 
@@ -187,16 +190,22 @@ func opened(t *testing.T, d *disk.Disk) *repo.Repo {
 	return r
 }
 
+// counted does a call, and tells whether that does too much.
+func counted(t *testing.T, r *repo.Repo, c api.Call) api.Answer {
+	t.Helper()
+	var a api.Answer
+	if k := done(r.Disk(), func() { a = r.Do(c) }); k > Do(r.Disk().Size(), c.Kind) {
+		t.Error("a call", r.Disk().Size(), c, k)
+	}
+	return a
+}
+
 // play does calls of each kind, and tells which does too much.
-func play(t *testing.T, d *disk.Disk, r *repo.Repo) {
+func play(t *testing.T, r *repo.Repo) {
 	t.Helper()
 	do := func(c api.Call) string {
 		t.Helper()
-		var a api.Answer
-		if k := done(d, func() { a = r.Do(c) }); k > Do(d.Size(), c.Kind) {
-			t.Error("a call", d.Size(), c, k)
-		}
-		return a.Hash
+		return counted(t, r, c).Hash
 	}
 	node := func(id string) []api.Op { return []api.Op{{Kind: api.OpNode, Id: id}} }
 	first := do(api.Call{Kind: api.CCommit, Name: "main", Ops: node("a")})
@@ -223,10 +232,47 @@ func TestP45_2_NoCallOfARepositoryDoesMore(t *testing.T) {
 		blank, e := disk.New(n)
 		must(t, e)
 		for _, d := range []*disk.Disk{blank, rubbish(t, n)} {
-			play(t, d, opened(t, d))
+			play(t, opened(t, d))
 			opened(t, d)
 			must(t, d.Over(3, strings.Repeat("\x77", api.Sector)))
-			play(t, d, opened(t, d))
+			play(t, opened(t, d))
 		}
+	}
+}
+
+// Whatever is drawn, on disks that are full now and then; all kinds of calls are answered OK.
+func TestP45_2_AnyCalls(t *testing.T) {
+	var d sample.Dice
+	met := map[int]int{}
+	for _, n := range []int{16, 17, 50, 600, 4096} {
+		x, e := disk.New(n)
+		must(t, e)
+		r, m, names := opened(t, x), model.New(), map[string]string{}
+		for range 400 {
+			c, was := calls.Drawn(&d, m.Seen(), 4), m.Copy()
+			told := m.Do(c)
+			for _, hash := range []*string{&c.Old, &c.Hash, &c.Other} {
+				if s, made := names[*hash]; made {
+					*hash = s
+				}
+			}
+			a := counted(t, r, c)
+			if a.Err == api.ErrFull {
+				m = was
+				continue
+			}
+			if a.Err == api.OK {
+				met[c.Kind]++
+			}
+			if c.Kind == api.CCommit || c.Kind == api.CMerge {
+				names[told.Hash] = a.Hash
+			}
+			if d.Below(30) == 0 {
+				r = opened(t, x)
+			}
+		}
+	}
+	if len(met) != 19 {
+		t.Error(met)
 	}
 }

@@ -9,6 +9,7 @@ import (
 	"testing"
 
 	"pleach/api"
+	"pleach/calls"
 	"pleach/facts"
 	"pleach/graph"
 	"pleach/name"
@@ -267,97 +268,6 @@ func (w *world) asked(c api.Call) api.Answer {
 	return a
 }
 
-// hash is mostly what a ref names, or some commit's name.
-func hash(d *sample.Dice, x api.Model) string {
-	few := []string{"", "#0", "x", "#01", "#99999", "#"}
-	switch n := d.Below(100); {
-	case n < len(few):
-		return few[n]
-	case n < 70 && len(x.Refs) > 0:
-		return x.Refs[d.Below(len(x.Refs))].Hash
-	case len(x.Commits) > 0:
-		return Name(x.Commits[d.Below(len(x.Commits))].Num)
-	}
-	return Name(x.Num)
-}
-
-// drawn is a call, most of whose parts may be, where a state has that; names is how many names of refs there are.
-func drawn(d *sample.Dice, x api.Model, names int) api.Call {
-	c := api.Call{Kind: d.Below(24) - 1, Name: fmt.Sprint("r", d.Below(names)), Hash: hash(d, x), Other: hash(d, x), Id: d.Node()}
-	switch d.Below(6) {
-	case 0, 1:
-		c.Kind = api.CCommit
-	case 2:
-		c.Kind = api.CMerge
-	}
-	var there []api.Ref // of the kind that the call is about
-	for _, r := range x.Refs {
-		if (r.Kind == api.Tag) == (c.Kind == api.CTag || c.Kind == api.CUntag) {
-			there = append(there, r)
-		}
-	}
-	if len(there) > 0 && d.Below(2) == 0 {
-		c.Name = there[d.Below(len(there))].Name
-	}
-	at := slices.IndexFunc(there, func(r api.Ref) bool { return r.Name == c.Name })
-	switch {
-	case d.Below(10) == 0:
-		c.Old = hash(d, x)
-	case at >= 0:
-		c.Old = there[at].Hash
-	}
-	odd(d, &c)
-	if len(c.Ops) == 0 {
-		c.Ops = ready(d, x, c.Old)
-	}
-	return c
-}
-
-// odd has some calls say what is odd, or may not be.
-func odd(d *sample.Dice, c *api.Call) {
-	switch d.Below(50) {
-	case 0:
-		c.Name = ""
-	case 1:
-		c.Name = "A"
-	case 2:
-		c.Id = "a b"
-	case 3:
-		c.Note = strings.Repeat("n", 40)
-	case 4:
-		c.Note = strings.Repeat("n", 41)
-	case 5:
-		c.Ops = slices.Repeat([]api.Op{{Kind: api.OpNode, Id: "z"}, {Kind: api.OpDropNode, Id: "z"}}, 32)
-	case 6:
-		c.Ops = make([]api.Op, 65)
-	}
-	if c.Kind == api.CLabelled && d.Below(2) == 0 {
-		c.Id = d.Label()
-	}
-}
-
-// ready is a few ops, most of which the graph of a commit lets be.
-func ready(d *sample.Dice, x api.Model, old string) []api.Op {
-	var g api.Graph
-	for _, k := range x.Commits {
-		if Name(k.Num) == old {
-			g = k.Graph
-		}
-	}
-	var l []api.Op
-	for range d.Below(40) {
-		o := d.Op()
-		next, _, e := graph.Apply(g, o)
-		if e == api.OK {
-			g = next
-		} else if d.Below(15) > 0 {
-			continue
-		}
-		l = append(l, o)
-	}
-	return l
-}
-
 // met is a kind of calls, and what it was answered.
 type met struct {
 	kind int
@@ -365,7 +275,7 @@ type met struct {
 }
 
 // runs does calls that are drawn, and holds each answer, and what there is behind it, against the world.
-func runs(t *testing.T, d *sample.Dice, num, names, calls int, all map[met]int) {
+func runs(t *testing.T, d *sample.Dice, num, names, count int, all map[met]int) {
 	t.Helper()
 	s, w := New(), newWorld(num)
 	s.num = num
@@ -375,9 +285,9 @@ func runs(t *testing.T, d *sample.Dice, num, names, calls int, all map[met]int) 
 			is(t, c, s.Do(c), w.do(c))
 		}
 	}
-	for range calls {
+	for range count {
 		was := s.Seen()
-		c := drawn(d, was, names)
+		c := calls.Drawn(d, was, names)
 		got, want := s.Do(c), w.do(c)
 		is(t, c, got, want)
 		now := s.Seen()

@@ -9,6 +9,7 @@ import (
 	"testing"
 
 	"pleach/api"
+	"pleach/calls"
 	"pleach/facts"
 	"pleach/graph"
 	"pleach/sample"
@@ -461,7 +462,7 @@ func TestP40_2_Memory(t *testing.T) {
 	var d sample.Dice
 	s, twin := New(), New()
 	for range 400 {
-		c := drawn(&d, twin.Seen(), 3)
+		c := calls.Drawn(&d, twin.Seen(), 3)
 		c.Ops = sample.Room(c.Ops, api.Op{Id: "other"})
 		was := sample.All(c.Ops)
 		want := twin.Do(c)
@@ -471,22 +472,13 @@ func TestP40_2_Memory(t *testing.T) {
 			t.Fatal(c)
 		}
 		sample.Spoil(c.Ops)
-		spoil(got)
+		calls.Spoil(got)
 		spoilSeen(s.Seen())
 		spoilSeen(s.Copy().Seen())
 		if !sameSeen(s.Seen(), twin.Seen()) {
 			t.Fatal(c)
 		}
 	}
-}
-
-func spoil(a api.Answer) {
-	sample.SpoilOf(a.Graph)
-	sample.Spoil(a.Changes)
-	sample.Spoil(a.Conflicts)
-	sample.Spoil(a.Log)
-	sample.Spoil(a.Refs)
-	sample.Spoil(a.Nums)
 }
 
 func spoilSeen(x api.Model) {
@@ -504,7 +496,7 @@ func TestP40_3_WhatChangesNothing(t *testing.T) {
 	s := branched(t)
 	for range 1500 {
 		was := s.Seen()
-		c := drawn(&d, was, 5)
+		c := calls.Drawn(&d, was, 5)
 		a := s.Do(c)
 		now := s.Seen()
 		asks := c.Kind >= api.CCheckout && c.Kind <= api.CStat && c.Kind != api.CMerge && c.Kind != api.CCollect

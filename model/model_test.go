@@ -9,6 +9,7 @@ import (
 	"testing"
 
 	"pleach/api"
+	"pleach/calls"
 	"pleach/graph"
 	"pleach/sample"
 )
@@ -26,26 +27,19 @@ func plain(x api.Model) api.Model {
 // sameSeen tells whether two states have the same; nil and empty lists are.
 func sameSeen(a, b api.Model) bool { return reflect.DeepEqual(plain(a), plain(b)) }
 
-// plainAnswer is an answer, its empty lists nil.
-func plainAnswer(a api.Answer) api.Answer {
-	a.Graph = sample.Plain(a.Graph)
-	a.Changes, a.Conflicts, a.Log, a.Refs, a.Nums = slices.Concat(a.Changes), slices.Concat(a.Conflicts), slices.Concat(a.Log), slices.Concat(a.Refs), slices.Concat(a.Nums)
-	return a
-}
-
 // is tells whether an answer is the one that is wanted, in all its fields.
 func is(t *testing.T, what any, got, want api.Answer) {
 	t.Helper()
-	if !reflect.DeepEqual(plainAnswer(got), plainAnswer(want)) {
+	if !reflect.DeepEqual(calls.Plain(got), calls.Plain(want)) {
 		t.Errorf("%v: %+v, want %+v", what, got, want)
 	}
 }
 
 // does does calls of which none is refused, and answers the last one.
-func does(t *testing.T, s *State, calls ...api.Call) api.Answer {
+func does(t *testing.T, s *State, l ...api.Call) api.Answer {
 	t.Helper()
 	var a api.Answer
-	for _, c := range calls {
+	for _, c := range l {
 		a = s.Do(c)
 		if a.Err != api.OK {
 			t.Fatal(c, a)
@@ -220,7 +214,7 @@ func TestP40_1_PlainState(t *testing.T) {
 	var d sample.Dice
 	s := &State{}
 	for range 3000 {
-		s.Do(drawn(&d, s.Seen(), 4))
+		s.Do(calls.Drawn(&d, s.Seen(), 4))
 		if d.Below(50) == 0 {
 			s = s.Copy()
 		}
